@@ -1,0 +1,1 @@
+"""Networks of gates and registers."""
