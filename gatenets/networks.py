@@ -4,6 +4,8 @@ MOST_BYTES = 65536
 MOST_NAMES = 1024
 MOST_INPUTS = 64
 MOST_OUTPUTS = 64
+MOST_BEATS = 65536
+MOST_SOURCES = 3
 LONGEST_NAME = 15
 
 LETTERS = "abcdefghijklmnopqrstuvwxyz"
@@ -17,7 +19,16 @@ SOURCES_OF_KIND = {
     "and": 2, "or": 2, "xor": 2, "nand": 2, "nor": 2, "xnor": 2,
     "maj": 3, "mux": 3,
 }
-REGISTERS = ("reg", "reg1")
+FIRST_BIT_OF_REGISTER = {"reg": 0, "reg1": 1}
+
+# What a kind gives stands in the place that its sources' bits tell, read as a number, the first source's the highest.
+BITS_OF_KIND = {
+    "zero": (0,), "one": (1,),
+    "not": (1, 0), "buf": (0, 1),
+    "and": (0, 0, 0, 1), "or": (0, 1, 1, 1), "xor": (0, 1, 1, 0),
+    "nand": (1, 1, 1, 0), "nor": (1, 0, 0, 0), "xnor": (1, 0, 0, 1),
+    "maj": (0, 0, 0, 1, 0, 1, 1, 1), "mux": (0, 1, 0, 1, 0, 0, 1, 1),
+}
 
 
 class NoNetwork(ValueError):
@@ -38,12 +49,33 @@ class Network:
         self.gates = {}
 
 
+class Machine:
+    def __init__(self, network):
+        # Names become places in one list of bits, so that a beat looks up no name.
+        places = place_names(network)
+        self.bits = first_bits(network, places)
+        self.input_places = [places[name] for name in network.inputs]
+        self.output_places = [places[name] for name in network.outputs]
+        self.steps = list_steps(network, places)
+        self.moves = list_moves(network, places)
+
+
 def check(text):
     try:
         read_network(text)
     except NoNetwork:
         return [-1]
     return [0]
+
+
+def run(text, inputs):
+    try:
+        network = read_network(text)
+    except NoNetwork:
+        return [-1]
+    if len(inputs) > MOST_BEATS:
+        return [-2]
+    return [0] + run_beats(Machine(network), inputs)
 
 
 def read_network(text):
@@ -147,7 +179,7 @@ def refuse_loops(network):
 
 def sources_at_once(gate):
     # A reg shows what its name had a beat before: it waits for nothing in this one.
-    if gate.kind in REGISTERS:
+    if gate.kind in FIRST_BIT_OF_REGISTER:
         return []
     return gate.sources
 
@@ -173,3 +205,73 @@ def order_gates(gates):
             if waits[taker] == 0:
                 ready.append(taker)
     return order
+
+
+def place_names(network):
+    places = dict(network.inputs)
+    for name in network.gates:
+        places[name] = len(places)
+    return places
+
+
+def first_bits(network, places):
+    # One place more, behind all names', stays 0: it stands for the sources that a kind doesn't take.
+    bits = [0] * (len(places) + 1)
+    for name, gate in network.gates.items():
+        if gate.kind in FIRST_BIT_OF_REGISTER:
+            bits[places[name]] = FIRST_BIT_OF_REGISTER[gate.kind]
+    return bits
+
+
+def list_steps(network, places):
+    steps = []
+    for name in order_gates(network.gates):
+        gate = network.gates[name]
+        if gate.kind not in FIRST_BIT_OF_REGISTER:
+            sources = [len(places)] * (MOST_SOURCES - len(gate.sources))
+            sources.extend([places[source] for source in gate.sources])
+            steps.append((places[name], BITS_OF_KIND[gate.kind], sources[0], sources[1], sources[2]))
+    return steps
+
+
+def list_moves(network, places):
+    moves = []
+    for name, gate in network.gates.items():
+        if gate.kind in FIRST_BIT_OF_REGISTER:
+            moves.append((places[name], places[gate.sources[0]]))
+    return moves
+
+
+def run_beats(machine, numbers):
+    answers = []
+    for number in numbers:
+        set_inputs(machine, number)
+        set_gates(machine)
+        answers.append(read_outputs(machine))
+        set_registers(machine)
+    return answers
+
+
+def set_inputs(machine, number):
+    for index, place in enumerate(machine.input_places):
+        machine.bits[place] = (number >> index) & 1
+
+
+def set_gates(machine):
+    bits = machine.bits
+    for place, given, first, second, third in machine.steps:
+        bits[place] = given[4 * bits[first] + 2 * bits[second] + bits[third]]
+
+
+def read_outputs(machine):
+    number = 0
+    for index, place in enumerate(machine.output_places):
+        number += machine.bits[place] << index
+    return number
+
+
+def set_registers(machine):
+    # All are read before one is set: a register may take what another has in this beat.
+    taken = [(place, machine.bits[source]) for place, source in machine.moves]
+    for place, bit in taken:
+        machine.bits[place] = bit
