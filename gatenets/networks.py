@@ -6,6 +6,9 @@ MOST_INPUTS = 64
 MOST_OUTPUTS = 64
 MOST_BEATS = 65536
 MOST_SOURCES = 3
+MOST_COMPARED_INPUTS = 16
+# So many inputs' numbers are compared at once: columns stay short, and an early difference ends the work early.
+INPUTS_IN_BLOCK = 11
 LONGEST_NAME = 15
 
 LETTERS = "abcdefghijklmnopqrstuvwxyz"
@@ -76,6 +79,20 @@ def run(text, inputs):
     if len(inputs) > MOST_BEATS:
         return [-2]
     return [0] + run_beats(Machine(network), inputs)
+
+
+def same(a, b):
+    try:
+        one = read_network(a)
+        other = read_network(b)
+    except NoNetwork:
+        return [-1]
+    if not are_comparable(one, other):
+        return [-2]
+    number = least_difference(Machine(one), Machine(other))
+    if number is None:
+        return [1]
+    return [0, number]
 
 
 def read_network(text):
@@ -275,3 +292,66 @@ def set_registers(machine):
     taken = [(place, machine.bits[source]) for place, source in machine.moves]
     for place, bit in taken:
         machine.bits[place] = bit
+
+
+def are_comparable(one, other):
+    if has_registers(one) or has_registers(other):
+        return False
+    if len(one.inputs) != len(other.inputs) or len(one.outputs) != len(other.outputs):
+        return False
+    return len(one.inputs) <= MOST_COMPARED_INPUTS
+
+
+def has_registers(network):
+    return any([gate.kind in FIRST_BIT_OF_REGISTER for gate in network.gates.values()])
+
+
+def least_difference(one, other):
+    # A column holds a name's bits for all numbers of a block, the least number's the lowest.
+    how_many = len(one.input_places)
+    within = min(how_many, INPUTS_IN_BLOCK)
+    rows = 1 << within
+    full = (1 << rows) - 1
+    counting = [counting_column(index, rows) for index in range(within)]
+    for block in range(1 << (how_many - within)):
+        inputs = counting + [full * ((block >> index) & 1) for index in range(how_many - within)]
+        rows_apart = differing_rows(output_columns(one, inputs, full), output_columns(other, inputs, full))
+        if rows_apart != 0:
+            return block * rows + lowest_place(rows_apart)
+    return None
+
+
+def counting_column(index, rows):
+    return sum([1 << row for row in range(rows) if (row >> index) & 1 == 1])
+
+
+def output_columns(machine, inputs, full):
+    columns = [0] * len(machine.bits)
+    for place, column in zip(machine.input_places, inputs):
+        columns[place] = column
+    for place, given, first, second, third in machine.steps:
+        columns[place] = gate_column(given, columns[first], columns[second], columns[third], full)
+    return [columns[place] for place in machine.output_places]
+
+
+def gate_column(given, first, second, third, full):
+    # A gate gives 1 where its sources have the bits of one of those places in which its kind's table has a 1.
+    firsts = (full ^ first, first)
+    seconds = (full ^ second, second)
+    thirds = (full ^ third, third)
+    column = 0
+    for bits, bit in enumerate(given):
+        if bit == 1:
+            column |= firsts[bits >> 2] & seconds[(bits >> 1) & 1] & thirds[bits & 1]
+    return column
+
+
+def differing_rows(columns, others):
+    rows_apart = 0
+    for column, other in zip(columns, others):
+        rows_apart |= column ^ other
+    return rows_apart
+
+
+def lowest_place(number):
+    return (number & -number).bit_length() - 1

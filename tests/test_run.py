@@ -4,16 +4,11 @@ import time
 import unittest
 
 from gatenets.networks import run
-from tests.helpers import EXAMPLE, KINDS, MOST_BYTES, bytes_of, names, wide_names
+from tests.helpers import EXAMPLE, KINDS, MOST_BYTES, NO_NETWORKS, bytes_of, names, wide_names
 
 MOST_HANDED_IN = 16000
 MOST_BEATS = 65536
 HIGHEST = 2 ** 64 - 1
-NO_NETWORKS = (
-    "in", "out x", "x = not x\n", "in a a\n", "in a\nout b\n", "in a\nx = and a\n", "x= one\n", "in A\n", "\x00",
-    "in a\nx = reg b\n", "in a\na = reg a\n", "x = not y\ny = not x\nout x\n", "in " + names(65),
-    "\n" * (MOST_BYTES + 1), "out" + " a" * 65 + "\nin a\n", wide_names(1025),
-)
 # Written out by hand from the sources' bits, the first source's leftmost.
 GIVEN = {
     "zero": {"": 0},

@@ -4,22 +4,7 @@ import itertools
 import unittest
 
 from gatenets.networks import check, run
-from tests.helpers import KINDS
-
-GIVES = {
-    "zero": lambda: False,
-    "one": lambda: True,
-    "not": lambda a: not a,
-    "buf": lambda a: a,
-    "and": lambda a, b: a and b,
-    "or": lambda a, b: a or b,
-    "xor": lambda a, b: a != b,
-    "nand": lambda a, b: not (a and b),
-    "nor": lambda a, b: not (a or b),
-    "xnor": lambda a, b: a == b,
-    "maj": lambda a, b, c: [a, b, c].count(True) >= 2,
-    "mux": lambda s, a, b: a if s else b,
-}
+from tests.helpers import GIVES, KINDS, numbers_from
 
 
 def second_reading(text, told):
@@ -42,14 +27,6 @@ def second_reading(text, told):
     for beat, name in itertools.product(range(len(told)), gates):
         has(name, beat)
     return [sum(2 ** place for place, name in enumerate(outputs) if has(name, beat)) for beat in range(len(told))]
-
-
-def numbers_from(seed):
-    """Numbers below 65536 in a fixed order, for networks that look like any."""
-    state = seed
-    while True:
-        state = (state * 6364136223846793005 + 1442695040888963407) % 2 ** 64
-        yield state >> 48
 
 
 def split_somewhere(word, listed, chosen):
