@@ -95,6 +95,14 @@ def same(a, b):
     return [0, number]
 
 
+def depth(text):
+    try:
+        network = read_network(text)
+    except NoNetwork:
+        return [-1]
+    return [longest_chain(network.gates)]
+
+
 def read_network(text):
     if len(text) > MOST_BYTES:
         raise NoNetwork()
@@ -355,3 +363,15 @@ def differing_rows(columns, others):
 
 def lowest_place(number):
     return (number & -number).bit_length() - 1
+
+
+def longest_chain(gates):
+    # What takes nothing in its own beat (inputs, registers, zero, one) begins chains and has no length of its own.
+    lengths = {}
+    longest = 0
+    for name in order_gates(gates):
+        sources = sources_at_once(gates[name])
+        if len(sources) > 0:
+            lengths[name] = 1 + max([lengths.get(source, 0) for source in sources])
+            longest = max(longest, lengths[name])
+    return longest
